@@ -1,0 +1,1 @@
+"""Languages of one family: their words, sounds and the old sounds behind them."""
