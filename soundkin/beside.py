@@ -4,13 +4,7 @@ What is known of the rows from some place on is a tuple: the least that they cos
 cost so much, and the first of these, its pairs written one behind another.
 """
 
-NO_SOUND = 1
-COST_UNTOLD = 10
-
-
-def change_cost(costs, one, other):
-    """What a change costs, by a dict of the costs that were told last."""
-    return costs.get((one, other), 0 if one == other else COST_UNTOLD)
+from soundkin.sounds import NO_SOUND, change_cost
 
 
 def with_pair(one, other, rest, costs):

@@ -3,10 +3,13 @@
 Each call answers a list of whole numbers; a refusal is a list of its number alone.
 """
 
+from soundkin.along import score_and_roots, states_on
 from soundkin.beside import lay_beside
-from soundkin.olds import becomes, count_places, give_old_sounds
+from soundkin.olds import becomes, by_old_sound, count_places, give_old_sounds, leave_out
+from soundkin.trees import all_trees, has_each_once, read_tree, write_tree
 
 OUT_OF_RANGE = -1
+NO_TREE = -4
 TOO_MANY = -5
 NOT_THERE = -6
 
@@ -22,9 +25,19 @@ WORD = 3
 PATTERNS = 4
 OLDS = 5
 REFLEX = 6
+EXPECTED = 7
+LEAVE = 8
+TREE = 9
+SCORE = 10
+ROOT = 11
+STATES = 12
+BEST = 13
 
 # By a call's number: how many whole numbers and how many rows it has.
-SHAPES = ((1, 0), (3, 0), (0, 2), (0, 1), (0, 0), (0, 0), (1, 0))
+SHAPES = (
+    (1, 0), (3, 0), (0, 2), (0, 1), (0, 0), (0, 0), (1, 0),
+    (1, 1), (1, 0), (0, 1), (0, 0), (2, 0), (2, 0), (0, 0),
+)
 
 
 class Family:
@@ -39,6 +52,7 @@ class Family:
         self.told = 0
         self.costs = {}
         self.words = []
+        self.told_tree = None
 
     def begins(self, languages):
         """A new family of so many languages."""
@@ -94,15 +108,86 @@ class Family:
         found = list(count_places(self.words))
         if len(found) > MOST_PATTERNS:
             return [TOO_MANY]
-        numbers = give_old_sounds(found)
-        if sound not in numbers:
+        groups = by_old_sound(found)
+        if sound >= len(groups):
             return [NOT_THERE]
-        own = [pattern for pattern, number in zip(found, numbers) if number == sound]
-        around = sorted(set([pattern[0] for pattern in own]))
+        around = sorted(set([pattern[0] for pattern in groups[sound]]))
         answer = [len(around)]
         for surroundings in around:
             answer.append(surroundings)
-            answer.extend([becomes(own, surroundings, language) for language in range(self.languages)])
+            answer.extend([becomes(groups[sound], surroundings, language) for language in range(self.languages)])
+        return answer
+
+    def expected(self, language, asked):
+        """What old sounds become in a language; asked are pairs of an old sound and surroundings."""
+        found = list(count_places(self.words))
+        if len(found) > MOST_PATTERNS:
+            return [TOO_MANY]
+        groups = by_old_sound(found)
+        if language >= self.languages or any([sound >= len(groups) for sound, surroundings in asked]):
+            return [NOT_THERE]
+        return [0] + [becomes(groups[sound], surroundings, language) for sound, surroundings in asked]
+
+    def leave(self, k):
+        """The fewest words without which k old sounds are enough."""
+        if len(count_places(self.words)) > MOST_PATTERNS:
+            return [TOO_MANY]
+        left_out = leave_out(self.words, k)
+        return [len(left_out)] + left_out
+
+    def tree(self, nodes):
+        """Tell the tree of the languages."""
+        if not has_each_once(nodes, self.languages):
+            return [OUT_OF_RANGE]
+        self.told_tree = nodes
+        return [0]
+
+    def scores_on(self, tree):
+        """The scores of all words' places on a tree, in order."""
+        scores = []
+        for places in self.words:
+            scores.extend([score_and_roots(tree, place[1], self.costs)[0] for place in places])
+        return scores
+
+    def score(self):
+        """The scores of all words' places on the tree that was told."""
+        if self.told_tree is None:
+            return [NO_TREE]
+        scores = self.scores_on(self.told_tree)
+        return [sum(scores)] + scores
+
+    def refused_place(self, word, place):
+        """The refusal of a place that is to be looked at along the tree, or None."""
+        if self.told_tree is None:
+            return NO_TREE
+        if word >= len(self.words) or place >= len(self.words[word]):
+            return NOT_THERE
+        return None
+
+    def root(self, word, place):
+        """A place's score on the tree that was told, and its roots."""
+        refused = self.refused_place(word, place)
+        if refused is not None:
+            return [refused]
+        found = score_and_roots(self.told_tree, self.words[word][place][1], self.costs)
+        return [found[0], len(found[1])] + found[1]
+
+    def states(self, word, place):
+        """A place's sounds along the tree that was told."""
+        refused = self.refused_place(word, place)
+        if refused is not None:
+            return [refused]
+        return [0] + states_on(self.told_tree, self.words[word][place][1], self.costs)
+
+    def best(self):
+        """The trees on which all places together score the least."""
+        trees = all_trees(self.languages)
+        totals = [sum(self.scores_on(tree)) for tree in trees]
+        least = min(totals)
+        written = sorted([write_tree(tree) for tree, total in zip(trees, totals) if total == least])
+        answer = [least, len(written)]
+        for row in written:
+            answer.extend(row)
         return answer
 
 
@@ -125,6 +210,11 @@ def read_places(row):
         places.append((row[at], tuple(row[at + 2:end])))
         at = end
     return places
+
+
+def read_pairs(row):
+    """The numbers of a row, two and two."""
+    return [(row[at], row[at + 1]) for at in range(0, len(row), 2)]
 
 
 def read_rows(calls, at, how_many):
@@ -151,7 +241,21 @@ def answer_call(family, call, numbers, rows):
         return family.patterns()
     if call == OLDS:
         return family.olds()
-    return family.reflex(numbers[0])
+    if call == REFLEX:
+        return family.reflex(numbers[0])
+    if call == EXPECTED:
+        return family.expected(numbers[0], read_pairs(rows[0]))
+    if call == LEAVE:
+        return family.leave(numbers[0])
+    if call == TREE:
+        return family.tree(read_tree(rows[0]))
+    if call == SCORE:
+        return family.score()
+    if call == ROOT:
+        return family.root(numbers[0], numbers[1])
+    if call == STATES:
+        return family.states(numbers[0], numbers[1])
+    return family.best()
 
 
 def answers(calls):

@@ -3,7 +3,7 @@
 A place, and so a pattern, is a tuple: its surroundings, and a tuple of each language's sound.
 """
 
-UNKNOWN = 0
+from soundkin.sounds import UNKNOWN
 
 
 def count_places(words):
@@ -57,6 +57,15 @@ def give_old_sounds(patterns):
     return way
 
 
+def by_old_sound(patterns):
+    """Of each old sound a list of its patterns."""
+    numbers = give_old_sounds(patterns)
+    groups = [[] for number in range(max(numbers, default=-1) + 1)]
+    for pattern, number in zip(patterns, numbers):
+        groups[number].append(pattern)
+    return groups
+
+
 def becomes(patterns, surroundings, language):
     """What the old sound of these patterns becomes there."""
     # Patterns of one old sound never disagree, so the first known sound is the only one.
@@ -64,3 +73,29 @@ def becomes(patterns, surroundings, language):
         if pattern[0] == surroundings and pattern[1][language] != UNKNOWN:
             return pattern[1][language]
     return UNKNOWN
+
+
+def with_one_more(choices, how_many):
+    """All choices of one more out of so many words, in order."""
+    longer = []
+    for chosen in choices:
+        for number in range(max(chosen, default=-1) + 1, how_many):
+            longer.append(chosen + [number])
+    return longer
+
+
+def are_enough(words, limit):
+    """Whether so many old sounds are enough for the words."""
+    return first_way(list(count_places(words)), limit, []) is not None
+
+
+def leave_out(words, limit):
+    """The first of the least choices of words without which so many old sounds are enough."""
+    choices = [[]]
+    # This ends with all words left out at the latest: no words take no old sounds.
+    while True:
+        for left_out in choices:
+            others = [places for number, places in enumerate(words) if number not in left_out]
+            if are_enough(others, limit):
+                return left_out
+        choices = with_one_more(choices, len(words))
